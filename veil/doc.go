@@ -1,0 +1,166 @@
+package veil
+
+import (
+	"veil/api"
+	"veil/config"
+	"veil/order"
+	"veil/patterns"
+	"veil/row"
+	"veil/spans"
+	"veil/views"
+)
+
+// Doc is a document.
+type Doc struct {
+	order    order.Order
+	rules    []api.Rule
+	row      row.Row
+	inserted [api.MaxLabels]int // bytes of each level
+}
+
+// Open opens a document (P6).
+func Open(c api.Config) (*Doc, api.Errno) {
+	o, e := config.Check(c)
+	if e != api.OK {
+		return nil, e
+	}
+	rules := copyOf(c.Rules)
+	return &Doc{order: o, rules: rules, row: row.New(o)}, api.OK
+}
+
+// copyOf copies the texts of the patterns too: they may be pieces of texts far
+// greater, which would be kept with them.
+func copyOf(rules []api.Rule) []api.Rule {
+	var l []api.Rule
+	for _, r := range rules {
+		pattern := []byte(r.Pattern)
+		l = append(l, api.Rule{Pattern: string(pattern), Label: r.Label})
+	}
+	return l
+}
+
+// Insert inserts a text at a level (P7).
+func (d *Doc) Insert(level int, at int, text string) api.Errno {
+	if !d.order.Has(level) {
+		return api.ErrLevel
+	}
+	places := d.placesOf(level)
+	if at < 0 || at > len(places) {
+		return api.ErrAt
+	}
+	if !mayBeInserted(text) {
+		return api.ErrText
+	}
+	if d.inserted[level]+len(text) > api.MaxCells {
+		return api.ErrQuota
+	}
+	number := 0
+	if at > 0 {
+		number = places[at-1].Last + 1
+	}
+	d.row.Insert(level, number, text)
+	d.inserted[level] += len(text)
+	return api.OK
+}
+
+// mayBeInserted tells whether a text is one that can be inserted.
+func mayBeInserted(text string) bool {
+	if len(text) < 1 || len(text) > api.MaxInsert {
+		return false
+	}
+	for i := 0; i < len(text); i++ {
+		if text[i] < 32 || text[i] > 126 || text[i] == api.Mask {
+			return false
+		}
+	}
+	return true
+}
+
+// Delete deletes at a level (P8).
+func (d *Doc) Delete(level int, from int, to int) api.Errno {
+	if !d.order.Has(level) {
+		return api.ErrLevel
+	}
+	places := d.placesOf(level)
+	if from < 0 || from >= to || to > len(places) {
+		return api.ErrAt
+	}
+	d.row.Delete(level, places[from].First, places[to-1].Last)
+	return api.OK
+}
+
+// View tells what a level sees (P9).
+func (d *Doc) View(level int) (string, api.Errno) {
+	if !d.order.Has(level) {
+		return "", api.ErrLevel
+	}
+	return d.textOf(level), api.OK
+}
+
+// Spans tells of which pieces a view is (P10).
+func (d *Doc) Spans(level int) ([]api.Span, api.Errno) {
+	if !d.order.Has(level) {
+		return nil, api.ErrLevel
+	}
+	text := d.textOf(level)
+	return spans.Of(text), api.OK
+}
+
+// Find tells which words and numbers of a view match a pattern (P10).
+func (d *Doc) Find(level int, pattern string) ([]api.Span, api.Errno) {
+	if !d.order.Has(level) {
+		return nil, api.ErrLevel
+	}
+	if !patterns.Valid(pattern) {
+		return nil, api.ErrText
+	}
+	text := d.textOf(level)
+	return spans.Find(text, pattern), api.OK
+}
+
+// Left tells how many bytes a level may still insert (P11).
+func (d *Doc) Left(level int) (int, api.Errno) {
+	if !d.order.Has(level) {
+		return 0, api.ErrLevel
+	}
+	return api.MaxCells - d.inserted[level], api.OK
+}
+
+// textOf gives a level's view as a text.
+func (d *Doc) textOf(level int) string {
+	places := d.placesOf(level)
+	return views.Text(places)
+}
+
+// placesOf gives the places of a level's view.
+func (d *Doc) placesOf(level int) []views.Place {
+	seen := d.row.FirstView(level)
+	against := d.patternsAgainst(level)
+	return views.Of(seen, against)
+}
+
+// patternsAgainst gives the patterns of the rules that can strike for a level.
+func (d *Doc) patternsAgainst(level int) []string {
+	var l []string
+	for _, r := range d.rules {
+		if !d.order.Leq(r.Label, level) {
+			l = append(l, r.Pattern)
+		}
+	}
+	return l
+}
+
+// Raise raises the label of a piece (P12).
+func (d *Doc) Raise(level int, from int, to int, label int) api.Errno { return api.OK }
+
+// Release gives a piece free for a level below (P13).
+func (d *Doc) Release(level int, from int, to int, target int) api.Errno { return api.OK }
+
+// Log tells what was released to a level (P14).
+func (d *Doc) Log(level int) ([]api.Record, api.Errno) { return nil, api.OK }
+
+// Version tells how often something has changed for a level (P14).
+func (d *Doc) Version(level int) (int, api.Errno) { return 0, api.OK }
+
+// Poll tells what others did since the last Poll (P15).
+func (d *Doc) Poll(level int) ([]api.Notice, api.Errno) { return nil, api.OK }

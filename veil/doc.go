@@ -14,8 +14,10 @@ import (
 type Doc struct {
 	order    order.Order
 	rules    []api.Rule
+	granted  [api.MaxLabels][api.MaxLabels]bool // from a level to a target
 	row      row.Row
 	inserted [api.MaxLabels]int // bytes of each level
+	logged   [api.MaxLabels]int // entries of each level's log
 }
 
 // Open opens a document (P6).
@@ -24,8 +26,10 @@ func Open(c api.Config) (*Doc, api.Errno) {
 	if e != api.OK {
 		return nil, e
 	}
-	rules := copyOf(c.Rules)
-	return &Doc{order: o, rules: rules, row: row.New(o)}, api.OK
+	d := Doc{order: o, row: row.New(o)}
+	d.rules = copyOf(c.Rules)
+	d.granted = grantedBy(c.Grants, o)
+	return &d, api.OK
 }
 
 // copyOf copies the texts of the patterns too: they may be pieces of texts far
@@ -37,6 +41,17 @@ func copyOf(rules []api.Rule) []api.Rule {
 		l = append(l, api.Rule{Pattern: string(pattern), Label: r.Label})
 	}
 	return l
+}
+
+// grantedBy tells from which level to which target there is a grant.
+func grantedBy(grants []api.Grant, o order.Order) [api.MaxLabels][api.MaxLabels]bool {
+	var granted [api.MaxLabels][api.MaxLabels]bool
+	for _, g := range grants {
+		if o.Has(g.From) && o.Has(g.To) {
+			granted[g.From][g.To] = true
+		}
+	}
+	return granted
 }
 
 // Insert inserts a text at a level (P7).
@@ -82,10 +97,56 @@ func (d *Doc) Delete(level int, from int, to int) api.Errno {
 		return api.ErrLevel
 	}
 	places := d.placesOf(level)
-	if from < 0 || from >= to || to > len(places) {
+	if !isPiece(from, to, len(places)) {
 		return api.ErrAt
 	}
 	d.row.Delete(level, places[from].First, places[to-1].Last)
+	return api.OK
+}
+
+// isPiece tells whether the places from from up to to are some of n places.
+func isPiece(from int, to int, n int) bool {
+	return from >= 0 && from < to && to <= n
+}
+
+// Raise raises the label of a piece (P12).
+func (d *Doc) Raise(level int, from int, to int, label int) api.Errno {
+	if !d.order.Has(level) || !d.order.Has(label) {
+		return api.ErrLevel
+	}
+	places := d.placesOf(level)
+	if !isPiece(from, to, len(places)) {
+		return api.ErrAt
+	}
+	d.row.Raise(level, places[from].First, places[to-1].Last, label)
+	return api.OK
+}
+
+// Release gives a piece free for a level below (P13).
+func (d *Doc) Release(level int, from int, to int, target int) api.Errno {
+	if !d.order.Has(level) || !d.order.Has(target) {
+		return api.ErrLevel
+	}
+	if !d.granted[level][target] {
+		return api.ErrGrant
+	}
+	places := d.placesOf(level)
+	if !isPiece(from, to, len(places)) {
+		return api.ErrAt
+	}
+	if views.HaveMask(places[from:to]) {
+		return api.ErrMask
+	}
+	first := places[from].First
+	last := places[to-1].Last
+	if !d.row.StemFrom(level, first, last, target) {
+		return api.ErrOrigin
+	}
+	if d.logged[target] >= api.MaxLog {
+		return api.ErrLog
+	}
+	d.row.Release(level, first, last, target)
+	d.logged[target]++
 	return api.OK
 }
 
@@ -149,12 +210,6 @@ func (d *Doc) patternsAgainst(level int) []string {
 	}
 	return l
 }
-
-// Raise raises the label of a piece (P12).
-func (d *Doc) Raise(level int, from int, to int, label int) api.Errno { return api.OK }
-
-// Release gives a piece free for a level below (P13).
-func (d *Doc) Release(level int, from int, to int, target int) api.Errno { return api.OK }
 
 // Log tells what was released to a level (P14).
 func (d *Doc) Log(level int) ([]api.Record, api.Errno) { return nil, api.OK }

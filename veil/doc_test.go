@@ -98,7 +98,7 @@ func TestOpen(t *testing.T) {
 	}
 }
 
-// TestExample: the document's example, but for what is raised and released.
+// TestExample: the document's example, but for logs, versions and notices.
 func TestExample(t *testing.T) {
 	d := open(t, diamond())
 	insert(t, d, 0, 0, "ab cd", api.OK)
@@ -107,14 +107,23 @@ func TestExample(t *testing.T) {
 	see(t, d, "ab cd", "abXY cd", "ab cd", "abXY cd")
 	insert(t, d, 2, 2, "7", api.OK)
 	see(t, d, "ab cd", "abXY cd", "ab7 cd", "ab7XY cd")
+	raise(t, d, 0, 0, 1, 2, api.OK)
+	see(t, d, "#b cd", "#bXY cd", "ab7 cd", "ab7XY cd")
+	raise(t, d, 3, 1, 2, 3, api.OK)
+	see(t, d, "#b cd", "#bXY cd", "ab7 cd", "ab7XY cd")
 	remove(t, d, 1, 0, 2, api.OK)
-	see(t, d, "ab cd", "XY cd", "ab7 cd", "7XY cd")
+	see(t, d, "#b cd", "XY cd", "ab7 cd", "7XY cd")
 	insert(t, d, 0, 5, " key", api.OK)
-	see(t, d, "ab cd #", "XY cd #", "ab7 cd #", "7XY cd key")
-	spansAre(t, d, 1, span(api.Sign, 0, 1), span(api.Sign, 1, 2), span(api.Word, 3, 5), span(api.Masked, 6, 7))
-	find(t, d, 3, "?e*", span(api.Word, 7, 10))
+	see(t, d, "#b cd #", "XY cd #", "ab7 cd #", "7XY cd key")
+	release(t, d, 3, 7, 10, 1, api.OK)
+	see(t, d, "#b cd #", "XY cd key", "ab7 cd #", "7XY cd key")
+	spansAre(t, d, 1, span(api.Sign, 0, 1), span(api.Sign, 1, 2), span(api.Word, 3, 5), span(api.Word, 6, 9))
+	find(t, d, 1, "?e*", span(api.Word, 6, 9))
 	left(t, d, 0, 191)
 	left(t, d, 1, 198)
+	release(t, d, 3, 0, 1, 1, api.ErrOrigin)
+	release(t, d, 3, 0, 1, 2, api.ErrGrant)
+	raise(t, d, 0, 0, 1, 4, api.ErrLevel)
 	remove(t, d, 0, 2, 2, api.ErrAt)
 	insert(t, d, 0, 0, "a#", api.ErrText)
 }

@@ -16,6 +16,7 @@ type model struct {
 	leq      [api.MaxLabels][api.MaxLabels]bool
 	row      []modelCell
 	inserted [api.MaxLabels]int
+	logged   [api.MaxLabels]int
 }
 
 func newModel(c api.Config) *model {
@@ -29,9 +30,16 @@ func newModel(c api.Config) *model {
 }
 
 type modelCell struct {
-	char      byte
-	origin    int
-	deletedBy []int
+	char     byte
+	origin   int
+	happened []event
+}
+
+// event: what happened to a cell: it was deleted (api.Deleted) or raised (api.Raised) by a level, or released (api.Released) to a target.
+type event struct {
+	kind  int
+	who   int // the level, or the target
+	label int // to which it was raised
 }
 
 // modelPlace: the byte of a place, and the numbers of all its cells in the row.
@@ -42,9 +50,39 @@ type modelPlace struct {
 
 func (m *model) isLabel(a int) bool { return a >= 0 && a < m.c.Labels }
 
+// counting gives what happened to a cell and counts for d, in the order of time.
+func (m *model) counting(c modelCell, d int) []event {
+	var l []event
+	for _, e := range c.happened {
+		if m.leq[e.who][d] {
+			l = append(l, e)
+		}
+	}
+	return l
+}
+
 func (m *model) isThere(c modelCell, d int) bool {
-	counts := func(by int) bool { return m.leq[by][d] }
-	return m.leq[c.origin][d] && !slices.ContainsFunc(c.deletedBy, counts)
+	isDeletion := func(e event) bool { return e.kind == api.Deleted }
+	return m.leq[c.origin][d] && !slices.ContainsFunc(m.counting(c, d), isDeletion)
+}
+
+func (m *model) label(c modelCell, d int) int {
+	label := c.origin
+	for _, e := range m.counting(c, d) {
+		switch e.kind {
+		case api.Raised:
+			label, _ = veil.Join(m.c, label, e.label)
+		case api.Released:
+			label = c.origin
+		}
+	}
+	return label
+}
+
+func (m *model) isFree(c modelCell, d int) bool {
+	isDeletion := func(e event) bool { return e.kind == api.Deleted }
+	l := slices.DeleteFunc(m.counting(c, d), isDeletion)
+	return len(l) > 0 && l[len(l)-1].kind == api.Released
 }
 
 var expressions = map[string]*regexp.Regexp{}
@@ -71,17 +109,25 @@ func (m *model) isStruck(text string, d int) bool {
 
 func (m *model) places(d int) []modelPlace {
 	var first []int
+	var hidden []bool
 	text := ""
+	words := "" // the text, with ! where no word goes on
 	for i, c := range m.row {
 		if m.isThere(c, d) {
 			first = append(first, i)
+			isHidden := !m.leq[m.label(c, d)][d]
+			hidden = append(hidden, isHidden)
 			text += string(c.char)
+			if isHidden {
+				words += "!"
+			} else {
+				words += string(c.char)
+			}
 		}
 	}
-	hidden := make([]bool, len(first))
-	for _, w := range wordsAndNumbers.FindAllStringIndex(text, -1) {
+	for _, w := range wordsAndNumbers.FindAllStringIndex(words, -1) {
 		for i := w[0]; i < w[1]; i++ {
-			hidden[i] = m.isStruck(text[w[0]:w[1]], d)
+			hidden[i] = m.isStruck(text[w[0]:w[1]], d) && !m.isFree(m.row[first[i]], d)
 		}
 	}
 	var l []modelPlace
@@ -119,19 +165,17 @@ func kindOfSpan(text string) int {
 	return api.Sign
 }
 
-func (m *model) spans(d int) []api.Span {
+func spansOf(text string) []api.Span {
 	var l []api.Span
-	text := m.view(d)
 	for _, s := range anySpan.FindAllStringIndex(text, -1) {
 		l = append(l, span(kindOfSpan(text[s[0]:s[1]]), s[0], s[1]))
 	}
 	return l
 }
 
-func (m *model) find(d int, pattern string) []api.Span {
+func findIn(text string, pattern string) []api.Span {
 	var l []api.Span
-	text := m.view(d)
-	for _, s := range m.spans(d) {
+	for _, s := range spansOf(text) {
 		if (s.Kind == api.Word || s.Kind == api.Number) && matches(pattern, text[s.From:s.To]) {
 			l = append(l, s)
 		}
@@ -166,19 +210,65 @@ func (m *model) insert(level int, at int, text string) api.Errno {
 	return api.OK
 }
 
+// piece gives the numbers of the cells of some places, and ErrAt if they are none.
+func (m *model) piece(level int, from int, to int) ([]int, api.Errno) {
+	places := m.places(level)
+	if from < 0 || from >= to || to > len(places) {
+		return nil, api.ErrAt
+	}
+	var l []int
+	for _, p := range places[from:to] {
+		l = append(l, p.cells...)
+	}
+	return l, api.OK
+}
+
+func (m *model) happens(cells []int, e event) {
+	for _, n := range cells {
+		m.row[n].happened = append(m.row[n].happened, e)
+	}
+}
+
 func (m *model) delete(level int, from int, to int) api.Errno {
 	if !m.isLabel(level) {
 		return api.ErrLevel
 	}
-	places := m.places(level)
-	if from < 0 || from >= to || to > len(places) {
-		return api.ErrAt
+	cells, e := m.piece(level, from, to)
+	m.happens(cells, event{kind: api.Deleted, who: level})
+	return e
+}
+
+func (m *model) raise(level int, from int, to int, label int) api.Errno {
+	if !m.isLabel(level) || !m.isLabel(label) {
+		return api.ErrLevel
 	}
-	for _, p := range places[from:to] {
-		for _, n := range p.cells {
-			m.row[n].deletedBy = append(m.row[n].deletedBy, level)
-		}
+	cells, e := m.piece(level, from, to)
+	m.happens(cells, event{kind: api.Raised, who: level, label: label})
+	return e
+}
+
+func (m *model) release(level int, from int, to int, target int) api.Errno {
+	if !m.isLabel(level) || !m.isLabel(target) {
+		return api.ErrLevel
 	}
+	if !slices.Contains(m.c.Grants, api.Grant{From: level, To: target}) {
+		return api.ErrGrant
+	}
+	cells, e := m.piece(level, from, to)
+	if e != api.OK {
+		return e
+	}
+	stranger := func(n int) bool { return !m.leq[m.row[n].origin][target] }
+	switch {
+	case strings.Contains(m.view(level)[from:to], "#"):
+		return api.ErrMask
+	case slices.ContainsFunc(cells, stranger):
+		return api.ErrOrigin
+	case m.logged[target] == api.MaxLog:
+		return api.ErrLog
+	}
+	m.happens(cells, event{kind: api.Released, who: target})
+	m.logged[target]++
 	return api.OK
 }
 
@@ -186,14 +276,16 @@ func (m *model) delete(level int, from int, to int) api.Errno {
 func (m *model) testSame(t *testing.T, d *veil.Doc, pattern string) {
 	t.Helper()
 	for level := range m.c.Labels {
-		if v, e := d.View(level); v != m.view(level) || e != api.OK {
-			t.Fatalf("P9: View(%d) = %q, %d, want %q", level, v, e, m.view(level))
+		text := m.view(level)
+		if v, e := d.View(level); v != text || e != api.OK {
+			t.Fatalf("P9: View(%d) = %q, %d, want %q", level, v, e, text)
 		}
-		if l, e := d.Spans(level); !slices.Equal(l, m.spans(level)) || e != api.OK {
-			t.Fatalf("P10: Spans(%d) = %v, %d, want %v", level, l, e, m.spans(level))
+		if l, e := d.Spans(level); !slices.Equal(l, spansOf(text)) || e != api.OK {
+			t.Fatalf("P10: Spans(%d) = %v, %d, want %v", level, l, e, spansOf(text))
 		}
-		if l, e := d.Find(level, pattern); !slices.Equal(l, m.find(level, pattern)) || e != api.OK {
-			t.Fatalf("P10: Find(%d, %q) = %v, %d, want %v", level, pattern, l, e, m.find(level, pattern))
+		found := findIn(text, pattern)
+		if l, e := d.Find(level, pattern); !slices.Equal(l, found) || e != api.OK {
+			t.Fatalf("P10: Find(%d, %q) = %v, %d, want %v", level, pattern, l, e, found)
 		}
 		if n, e := d.Left(level); n != api.MaxCells-m.inserted[level] || e != api.OK {
 			t.Fatalf("P11: Left(%d) = %d, %d, want %d", level, n, e, api.MaxCells-m.inserted[level])

@@ -111,6 +111,9 @@ func TestInsertedBytes(t *testing.T) {
 	}
 }
 
+// noPieces: from and to that are none in a view of 5 places.
+var noPieces = [][2]int{{0, 0}, {5, 5}, {1, 0}, {3, 1}, {-1, 0}, {-1, 1}, {0, 6}, {4, 6}, {5, 6}, {6, 7}, {least, 1}, {0, greatest}, {least, greatest}, {greatest, least}, {least, least}, {greatest, greatest}, {1 << 32, 1<<32 + 1}}
+
 func TestDeleteRefused(t *testing.T) {
 	d := written(t)
 	before := tellAll(d)
@@ -118,7 +121,7 @@ func TestDeleteRefused(t *testing.T) {
 		remove(t, d, level, 0, 1, api.ErrLevel)
 		remove(t, d, level, -1, 0, api.ErrLevel)
 	}
-	for _, k := range [][2]int{{0, 0}, {5, 5}, {1, 0}, {3, 1}, {-1, 0}, {-1, 1}, {0, 6}, {4, 6}, {5, 6}, {6, 7}, {least, 1}, {0, greatest}, {least, greatest}, {greatest, least}, {least, least}, {greatest, greatest}, {1 << 32, 1<<32 + 1}} {
+	for _, k := range noPieces {
 		remove(t, d, 0, k[0], k[1], api.ErrAt)
 	}
 	remove(t, d, 3, 0, 9, api.ErrAt)
@@ -167,6 +170,9 @@ func TestDocumentsKeepNothing(t *testing.T) {
 	insert(t, d, 0, 0, "ab key spoilt", api.OK)
 	insert(t, d, 1, 2, "X", api.OK)
 	see(t, d, "ab # spoilt", "abX # spoilt", "ab # spoilt", "abX key spoilt")
+	release(t, d, 3, 4, 7, 1, api.OK)
+	release(t, d, 3, 4, 7, 0, api.ErrGrant)
+	see(t, d, "ab # spoilt", "abX key spoilt", "ab # spoilt", "abX key spoilt")
 	if _, e := veil.Open(b.config(4)); e == api.OK {
 		t.Errorf("P6: the spoilt configuration was opened")
 	}
@@ -207,4 +213,10 @@ func TestDocumentsStandAlone(t *testing.T) {
 	remove(t, second, 0, 0, 3, api.OK)
 	see(t, first, "first", "first", "first", "first")
 	see(t, second, "ond", "ond", "ond", "ond")
+	for range api.MaxLog {
+		release(t, first, 3, 0, 1, 1, api.OK)
+	}
+	raise(t, first, 0, 0, 5, 1, api.OK)
+	see(t, second, "ond", "ond", "ond", "ond")
+	release(t, second, 3, 0, 1, 1, api.OK)
 }

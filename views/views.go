@@ -15,11 +15,12 @@ type Place struct {
 }
 
 // Of gives the places of the view of these cells, in which words and numbers
-// that match one of the patterns are hidden.
+// that match one of the patterns are hidden too, but for free cells.
 func Of(seen []row.Seen, against []string) []Place {
 	text := textOf(seen)
 	struck := strike(text, against)
-	return join(seen, struck)
+	masked := mask(seen, text, struck)
+	return join(seen, masked)
 }
 
 // Text gives a view as a text.
@@ -31,25 +32,52 @@ func Text(places []Place) string {
 	return string(text)
 }
 
+// HaveMask tells whether one of these places is a mask.
+func HaveMask(places []Place) bool {
+	for _, p := range places {
+		if p.Char == api.Mask {
+			return true
+		}
+	}
+	return false
+}
+
+// textOf gives the text of the cells, with a mask for each that its label hides:
+// so no word or number goes over it.
 func textOf(seen []row.Seen) string {
 	var text []byte
 	for _, s := range seen {
-		text = append(text, s.Char)
+		if s.Hidden {
+			text = append(text, api.Mask)
+		} else {
+			text = append(text, s.Char)
+		}
 	}
 	return string(text)
 }
 
-// strike gives the text with a mask in place of each byte that is hidden.
-func strike(text string, against []string) string {
-	struck := []byte(text)
+// strike gives the words and numbers that match one of the patterns.
+func strike(text string, against []string) []api.Span {
+	var l []api.Span
 	for _, pattern := range against {
-		for _, s := range spans.Find(text, pattern) {
-			for i := s.From; i < s.To && i < len(struck); i++ {
-				struck[i] = api.Mask
+		found := spans.Find(text, pattern)
+		l = append(l, found...)
+	}
+	return l
+}
+
+// mask gives the text with masks in place of what is struck and not free. The
+// text has a byte for each cell.
+func mask(seen []row.Seen, text string, struck []api.Span) string {
+	masked := []byte(text)
+	for _, s := range struck {
+		for i := s.From; i >= 0 && i < s.To && i < len(masked) && i < len(seen); i++ {
+			if !seen[i].Free {
+				masked[i] = api.Mask
 			}
 		}
 	}
-	return string(struck)
+	return string(masked)
 }
 
 // join makes one place of the masks that stand side by side. The text has a

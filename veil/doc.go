@@ -3,6 +3,8 @@ package veil
 import (
 	"veil/api"
 	"veil/config"
+	"veil/logs"
+	"veil/news"
 	"veil/order"
 	"veil/patterns"
 	"veil/row"
@@ -17,7 +19,8 @@ type Doc struct {
 	granted  [api.MaxLabels][api.MaxLabels]bool // from a level to a target
 	row      row.Row
 	inserted [api.MaxLabels]int // bytes of each level
-	logged   [api.MaxLabels]int // entries of each level's log
+	logs     logs.Logs
+	news     news.News
 }
 
 // Open opens a document (P6).
@@ -26,7 +29,9 @@ func Open(c api.Config) (*Doc, api.Errno) {
 	if e != api.OK {
 		return nil, e
 	}
-	d := Doc{order: o, row: row.New(o)}
+	d := Doc{order: o}
+	d.row = row.New(o)
+	d.news = news.New(o)
 	d.rules = copyOf(c.Rules)
 	d.granted = grantedBy(c.Grants, o)
 	return &d, api.OK
@@ -75,6 +80,7 @@ func (d *Doc) Insert(level int, at int, text string) api.Errno {
 	}
 	d.row.Insert(level, number, text)
 	d.inserted[level] += len(text)
+	d.news.Tell(api.Inserted, level, level)
 	return api.OK
 }
 
@@ -101,6 +107,7 @@ func (d *Doc) Delete(level int, from int, to int) api.Errno {
 		return api.ErrAt
 	}
 	d.row.Delete(level, places[from].First, places[to-1].Last)
+	d.news.Tell(api.Deleted, level, level)
 	return api.OK
 }
 
@@ -119,6 +126,7 @@ func (d *Doc) Raise(level int, from int, to int, label int) api.Errno {
 		return api.ErrAt
 	}
 	d.row.Raise(level, places[from].First, places[to-1].Last, label)
+	d.news.Tell(api.Raised, level, level)
 	return api.OK
 }
 
@@ -142,11 +150,14 @@ func (d *Doc) Release(level int, from int, to int, target int) api.Errno {
 	if !d.row.StemFrom(level, first, last, target) {
 		return api.ErrOrigin
 	}
-	if d.logged[target] >= api.MaxLog {
+	if d.logs.IsFull(target) {
 		return api.ErrLog
 	}
 	d.row.Release(level, first, last, target)
-	d.logged[target]++
+	d.news.Tell(api.Released, level, target)
+	// Each of these places is one cell, as none is a mask.
+	version := d.news.Version(target)
+	d.logs.Add(target, api.Record{By: level, Cells: to - from, Version: version})
 	return api.OK
 }
 
@@ -187,6 +198,30 @@ func (d *Doc) Left(level int) (int, api.Errno) {
 	return api.MaxCells - d.inserted[level], api.OK
 }
 
+// Log tells what was released to a level (P14).
+func (d *Doc) Log(level int) ([]api.Record, api.Errno) {
+	if !d.order.Has(level) {
+		return nil, api.ErrLevel
+	}
+	return d.logs.Of(level), api.OK
+}
+
+// Version tells how often something has changed for a level (P14).
+func (d *Doc) Version(level int) (int, api.Errno) {
+	if !d.order.Has(level) {
+		return 0, api.ErrLevel
+	}
+	return d.news.Version(level), api.OK
+}
+
+// Poll tells what others did since the last Poll (P15).
+func (d *Doc) Poll(level int) ([]api.Notice, api.Errno) {
+	if !d.order.Has(level) {
+		return nil, api.ErrLevel
+	}
+	return d.news.Poll(level), api.OK
+}
+
 // textOf gives a level's view as a text.
 func (d *Doc) textOf(level int) string {
 	places := d.placesOf(level)
@@ -210,12 +245,3 @@ func (d *Doc) patternsAgainst(level int) []string {
 	}
 	return l
 }
-
-// Log tells what was released to a level (P14).
-func (d *Doc) Log(level int) ([]api.Record, api.Errno) { return nil, api.OK }
-
-// Version tells how often something has changed for a level (P14).
-func (d *Doc) Version(level int) (int, api.Errno) { return 0, api.OK }
-
-// Poll tells what others did since the last Poll (P15).
-func (d *Doc) Poll(level int) ([]api.Notice, api.Errno) { return nil, api.OK }

@@ -84,7 +84,10 @@ func TestOpen(t *testing.T) {
 		left(t, d, level, api.MaxCells)
 		spansAre(t, d, level)
 		find(t, d, level, "*")
+		logIs(t, d, level)
+		poll(t, d, level)
 	}
+	versions(t, d, 0, 0, 0, 0)
 	for _, k := range []checkCase{
 		{"no label", labels(0), api.ErrLabels},
 		{"a circle", labels(2, 0, 1, 1, 0), api.ErrOrder},
@@ -98,7 +101,6 @@ func TestOpen(t *testing.T) {
 	}
 }
 
-// TestExample: the document's example, but for logs, versions and notices.
 func TestExample(t *testing.T) {
 	d := open(t, diamond())
 	insert(t, d, 0, 0, "ab cd", api.OK)
@@ -117,6 +119,9 @@ func TestExample(t *testing.T) {
 	see(t, d, "#b cd #", "XY cd #", "ab7 cd #", "7XY cd key")
 	release(t, d, 3, 7, 10, 1, api.OK)
 	see(t, d, "#b cd #", "XY cd key", "ab7 cd #", "7XY cd key")
+	versions(t, d, 3, 6, 4, 8)
+	logIs(t, d, 1, record(3, 3, 6))
+	poll(t, d, 1, notice(api.Inserted, 0), notice(api.Raised, 0), notice(api.Inserted, 0), notice(api.Released, 3))
 	spansAre(t, d, 1, span(api.Sign, 0, 1), span(api.Sign, 1, 2), span(api.Word, 3, 5), span(api.Word, 6, 9))
 	find(t, d, 1, "?e*", span(api.Word, 6, 9))
 	left(t, d, 0, 191)
@@ -126,6 +131,7 @@ func TestExample(t *testing.T) {
 	raise(t, d, 0, 0, 1, 4, api.ErrLevel)
 	remove(t, d, 0, 2, 2, api.ErrAt)
 	insert(t, d, 0, 0, "a#", api.ErrText)
+	poll(t, d, 3, notice(api.Resync, -1))
 }
 
 func TestInsertAtTheBeginning(t *testing.T) {

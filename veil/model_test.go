@@ -16,7 +16,15 @@ type model struct {
 	leq      [api.MaxLabels][api.MaxLabels]bool
 	row      []modelCell
 	inserted [api.MaxLabels]int
-	logged   [api.MaxLabels]int
+	done     []deed
+	polled   [api.MaxLabels]int // what was done before the level's last Poll
+}
+
+// deed: something that was done and answered OK.
+type deed struct {
+	kind, by int
+	lowest   int // for this level and those above it it counts
+	cells    int // that were released
 }
 
 func newModel(c api.Config) *model {
@@ -185,6 +193,49 @@ func findIn(text string, pattern string) []api.Span {
 
 var insertable = regexp.MustCompile(`^[\x20-\x22\x24-\x7e]{1,40}$`)
 
+// does lays down that something was done, if it was answered OK.
+func (m *model) does(e api.Errno, n deed) api.Errno {
+	if e == api.OK {
+		m.done = append(m.done, n)
+	}
+	return e
+}
+
+// version counts those of the first n things that were done that count for a level.
+func (m *model) version(level int, n int) int {
+	count := 0
+	for _, k := range m.done[:n] {
+		if m.leq[k.lowest][level] {
+			count++
+		}
+	}
+	return count
+}
+
+func (m *model) log(level int) []api.Record {
+	var l []api.Record
+	for i, k := range m.done {
+		if k.kind == api.Released && k.lowest == level {
+			l = append(l, record(k.by, k.cells, m.version(level, i+1)))
+		}
+	}
+	return l
+}
+
+func (m *model) poll(level int) []api.Notice {
+	var l []api.Notice
+	for _, k := range m.done[m.polled[level]:] {
+		if m.leq[k.lowest][level] && k.by != level {
+			l = append(l, notice(k.kind, k.by))
+		}
+	}
+	m.polled[level] = len(m.done)
+	if len(l) > api.MaxNotices {
+		return []api.Notice{notice(api.Resync, -1)}
+	}
+	return l
+}
+
 func (m *model) insert(level int, at int, text string) api.Errno {
 	if !m.isLabel(level) {
 		return api.ErrLevel
@@ -207,7 +258,7 @@ func (m *model) insert(level int, at int, text string) api.Errno {
 		m.row = slices.Insert(m.row, number+i, modelCell{char: text[i], origin: level})
 	}
 	m.inserted[level] += len(text)
-	return api.OK
+	return m.does(api.OK, deed{kind: api.Inserted, by: level, lowest: level})
 }
 
 // piece gives the numbers of the cells of some places, and ErrAt if they are none.
@@ -235,7 +286,7 @@ func (m *model) delete(level int, from int, to int) api.Errno {
 	}
 	cells, e := m.piece(level, from, to)
 	m.happens(cells, event{kind: api.Deleted, who: level})
-	return e
+	return m.does(e, deed{kind: api.Deleted, by: level, lowest: level})
 }
 
 func (m *model) raise(level int, from int, to int, label int) api.Errno {
@@ -244,7 +295,7 @@ func (m *model) raise(level int, from int, to int, label int) api.Errno {
 	}
 	cells, e := m.piece(level, from, to)
 	m.happens(cells, event{kind: api.Raised, who: level, label: label})
-	return e
+	return m.does(e, deed{kind: api.Raised, by: level, lowest: level})
 }
 
 func (m *model) release(level int, from int, to int, target int) api.Errno {
@@ -264,12 +315,11 @@ func (m *model) release(level int, from int, to int, target int) api.Errno {
 		return api.ErrMask
 	case slices.ContainsFunc(cells, stranger):
 		return api.ErrOrigin
-	case m.logged[target] == api.MaxLog:
+	case len(m.log(target)) == api.MaxLog:
 		return api.ErrLog
 	}
 	m.happens(cells, event{kind: api.Released, who: target})
-	m.logged[target]++
-	return api.OK
+	return m.does(api.OK, deed{kind: api.Released, by: level, lowest: target, cells: len(cells)})
 }
 
 // testSame asks that the document answers each level as the model does.
@@ -290,5 +340,21 @@ func (m *model) testSame(t *testing.T, d *veil.Doc, pattern string) {
 		if n, e := d.Left(level); n != api.MaxCells-m.inserted[level] || e != api.OK {
 			t.Fatalf("P11: Left(%d) = %d, %d, want %d", level, n, e, api.MaxCells-m.inserted[level])
 		}
+		version := m.version(level, len(m.done))
+		if n, e := d.Version(level); n != version || e != api.OK {
+			t.Fatalf("P14: Version(%d) = %d, %d, want %d", level, n, e, version)
+		}
+		if l, e := d.Log(level); !slices.Equal(l, m.log(level)) || e != api.OK {
+			t.Fatalf("P14: Log(%d) = %v, %d, want %v", level, l, e, m.log(level))
+		}
+	}
+}
+
+// testPoll asks that the document has the notices for a level that the model has.
+func (m *model) testPoll(t *testing.T, d *veil.Doc, level int) {
+	t.Helper()
+	want := m.poll(level)
+	if l, e := d.Poll(level); !slices.Equal(l, want) || e != api.OK {
+		t.Fatalf("P15: Poll(%d) = %v, %d, want %v", level, l, e, want)
 	}
 }

@@ -156,6 +156,9 @@ func testRandomCall(t *testing.T, r *rand.Rand, d doc, m *model, k call) api.Err
 	}
 	patterns := []string{"*", "?", "k*", "*1*", "e?", "y"}
 	m.testSame(t, d, patterns[r.Intn(len(patterns))])
+	if r.Intn(2) == 0 {
+		m.testPoll(t, d, r.Intn(m.c.Labels))
+	}
 	return want
 }
 
@@ -195,10 +198,26 @@ func testVeil(t *testing.T, r *rand.Rand, c api.Config, top int) {
 		} else if e, f := k.do(all), k.do(below); e != f {
 			t.Fatalf("P16: %v = %d beside the others, %d without them", k, e, f)
 		}
+		asker := r.Intn(2 * c.Labels) // polls, if it is a level
 		for level := range c.Labels {
 			if isBelow(level) && !sameTold(tell(all, level), tell(below, level)) {
 				t.Fatalf("P16: %v: %d is told %v beside the others, %v without them", k, level, tell(all, level), tell(below, level))
 			}
+			if level == asker {
+				testVeiledPoll(t, all, below, level, isBelow(level))
+			}
 		}
+	}
+}
+
+// testVeiledPoll polls in both documents, or if the level is left out in the second, just in the first.
+func testVeiledPoll(t *testing.T, all doc, below doc, level int, isBelow bool) {
+	t.Helper()
+	l, _ := all.Poll(level)
+	if !isBelow {
+		return
+	}
+	if k, _ := below.Poll(level); !slices.Equal(l, k) {
+		t.Fatalf("P16: Poll(%d) = %v beside the others, %v without them", level, l, k)
 	}
 }

@@ -9,11 +9,12 @@ import (
 	"veil/veil"
 )
 
-// told: all that a document tells a level.
+// told: all that a document tells a level, but for its notices.
 type told struct {
-	view         string
-	spans, found []api.Span
-	left         int
+	view          string
+	spans, found  []api.Span
+	left, version int
+	log           []api.Record
 }
 
 func tell(d doc, level int) told {
@@ -22,24 +23,34 @@ func tell(d doc, level int) told {
 	a.spans, _ = d.Spans(level)
 	a.found, _ = d.Find(level, "*")
 	a.left, _ = d.Left(level)
+	a.version, _ = d.Version(level)
+	a.log, _ = d.Log(level)
 	return a
 }
 
+// tellAll takes the notices of all levels too: then none wait.
 func tellAll(d doc) []told {
 	var l []told
 	for level := range api.MaxLabels {
 		l = append(l, tell(d, level))
+		d.Poll(level)
 	}
 	return l
 }
 
 func sameTold(a told, b told) bool {
-	return a.view == b.view && a.left == b.left && slices.Equal(a.spans, b.spans) && slices.Equal(a.found, b.found)
+	return a.view == b.view && a.left == b.left && a.version == b.version &&
+		slices.Equal(a.spans, b.spans) && slices.Equal(a.found, b.found) && slices.Equal(a.log, b.log)
 }
 
-// unchanged asks that a document tells what it told.
+// unchanged asks that a document tells what it told, and that no notice waits.
 func unchanged(t *testing.T, d doc, before []told) {
 	t.Helper()
+	for level := range api.MaxLabels {
+		if l, _ := d.Poll(level); len(l) > 0 {
+			t.Errorf("P1, P15: nothing was done, but for %d there waited %v", level, l)
+		}
+	}
 	after := tellAll(d)
 	if !slices.EqualFunc(before, after, sameTold) {
 		t.Errorf("P1, P2: the document told %v, and now %v", before, after)
@@ -146,6 +157,15 @@ func TestAskingRefused(t *testing.T) {
 		if l, e := d.Spans(level); l != nil || e != api.ErrLevel {
 			t.Errorf("P10: Spans(%d) = %v, %d", level, l, e)
 		}
+		if l, e := d.Log(level); l != nil || e != api.ErrLevel {
+			t.Errorf("P14: Log(%d) = %v, %d", level, l, e)
+		}
+		if n, e := d.Version(level); n != 0 || e != api.ErrLevel {
+			t.Errorf("P14: Version(%d) = %d, %d", level, n, e)
+		}
+		if l, e := d.Poll(level); l != nil || e != api.ErrLevel {
+			t.Errorf("P15: Poll(%d) = %v, %d", level, l, e)
+		}
 		for _, pattern := range []string{"*", "", "A"} {
 			if l, e := d.Find(level, pattern); l != nil || e != api.ErrLevel {
 				t.Errorf("P10: Find(%d, %q) = %v, %d, want ErrLevel", level, pattern, l, e)
@@ -179,10 +199,10 @@ func TestDocumentsKeepNothing(t *testing.T) {
 }
 
 // fill writes into a list and into its spare room.
-func fill(l []api.Span) {
+func fill[entry any](l []entry, mark entry) {
 	l = l[:cap(l)]
 	for i := range l {
-		l[i] = span(9, 9, 9)
+		l[i] = mark
 	}
 }
 
@@ -192,9 +212,9 @@ func TestListsAreFresh(t *testing.T) {
 	for level := range 4 {
 		old, _ := d.Spans(level)
 		l, _ := d.Spans(level)
-		fill(l)
+		fill(l, span(9, 9, 9))
 		f, _ := d.Find(level, "*")
-		fill(f)
+		fill(f, span(9, 9, 9))
 		if !slices.Equal(old, before[level].spans) {
 			t.Errorf("P2: Spans(%d) gave one list twice", level)
 		}
@@ -218,5 +238,11 @@ func TestDocumentsStandAlone(t *testing.T) {
 	}
 	raise(t, first, 0, 0, 5, 1, api.OK)
 	see(t, second, "ond", "ond", "ond", "ond")
+	versions(t, second, 2, 2, 2, 2)
+	logIs(t, second, 1)
+	poll(t, second, 1, notice(api.Inserted, 0), notice(api.Deleted, 0))
 	release(t, second, 3, 0, 1, 1, api.OK)
+	logIs(t, second, 1, record(3, 1, 3))
+	poll(t, first, 1, notice(api.Resync, -1))
+	poll(t, second, 1, notice(api.Released, 3))
 }
